@@ -58,6 +58,7 @@ func TestReady(t *testing.T) {
 		{guard(0), 0, -1, true}, {guard(0), 0, 0, true}, {guard(0), 0, 1, true}, {guard(0), 1, 1, false}, {guard(0), 14, 1, true},
 		{guard(1), 1, 1, true}, {guard(1), 1, 0, false}, {guard(1), 1, -1, false}, {guard(1), 0, 1, false}, {guard(1), 3, 1, false}, {guard(1), 13, 1, true}, {guard(2), 1, 1, false}, {guard(2), 3, 1, true}, {guard(2), 2, 1, true}, {guard(3), 0, 1, true}, {guard(3), 8, 1, false}, {guard(3), 0, 0, false},
 		{mile(0), 1, -1, true}, {mile(0), 1, 0, true}, {mile(0), 0, 0, false}, {mile(1), 2, 1, true}, {mile(1), 3, 1, true}, {mile(1), 3, 0, false}, {mile(1), 3, -1, false}, {mile(1), 1, 1, false}, {mile(3), 8, 1, true},
+		{guard(4), 0, 0, false}, {guard(-1), 0, 0, false}, {mile(4), 15, 0, false}, {mile(-1), 15, 0, false}, {guard(4), 0, -1, false}, {mile(4), 15, -1, false},
 		{guard(4), 15, 1, false}, {guard(-1), 0, 1, false}, {mile(4), 15, 1, false}, {mile(-1), 15, 1, false}, {guard(math.MaxInt), 0, 1, false}, {mile(math.MinInt), 15, 1, false},
 	} {
 		s := api.State{Open: x.open}
@@ -129,6 +130,7 @@ func TestFire(t *testing.T) {
 		open, done, open2, done2 int
 	}{
 		{guard(0), 0, 31, 1, 14}, {guard(2), 0, 31, 4, 27}, {guard(1), 2, 2, 2, 0}, {mile(0), 15, 0, 8, 1}, {mile(1), 15, 1, 9, 3}, {mile(2), 15, 4, 11, 4}, {mile(3), 15, 0, 7, 8}, {mile(4), 7, 1, 0, 17}, {mile(1), 0, 0, 0, 2},
+		{guard(9), 6, 7, 6, 7}, {guard(-1), 6, 7, 6, 7}, {mile(9), 7, 6, 7, 6}, {mile(-1), 7, 6, 7, 6},
 		{guard(9), 5, 6, 5, 6}, {guard(-1), 5, 6, 5, 6}, {mile(9), 5, 6, 5, 6}, {mile(-1), 5, 6, 5, 6},
 	} {
 		s := api.State{Vals: []int64{7}, Open: x.open, Done: x.done, Did: []int{1, 2}, Count: []int{3, 4}}

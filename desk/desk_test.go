@@ -34,6 +34,8 @@ func TestLines(t *testing.T) {
 		{"stage s;", "", "lint", "note 5 s\nnote 6 s\n"}, {"stage s;", "0", "lint x", "note 5 s\nnote 6 s\n"}, {"", "", "lint", ""},
 		{"", "", "bound", "1"}, {"stage s; stage t;", "0", "bound", "4"}, {"attr a = 1; stage s; guard s if a < 3 or a = 5;", "", "bound x", "10"}, {example, "", "bound", "6144"},
 		{"", "", "size", "1 1 1"}, {"stage s;", "", "size x", "1 1 1"}, {"", "0", "size", "budget"}, {example, "", "size", "9 14 4"},
+		// all eight milestones done, and no stage open, is another colour than one stage open, and no milestone done
+		{"user u; role r = u; stage s; stage t; stage v; stage w; stage x; stage y; stage z; stage q; event e by r in s; guard s; guard t on e; guard v on e; guard w on e; guard x on e; guard y on e; guard z on e; guard q on e; milestone a of s on e; milestone b of t on e; milestone c of v on e; milestone d of w on e; milestone f of x on e; milestone g of y on e; milestone h of z on e; milestone i of q on e;", "", "size", "2 2 2"},
 		{example, "", "shrink true", ""}, {example, "", "shrink AG not open s", "stage s;\nguard s;\n"}, {example, "", "shrink", ""}, {example, "", "shrink open q", ""},
 		{" stage s ; # x\n user u;", "", "show", "stage s;\nuser u;\n"}, {"", "", "show x", ""}, {"guard s if not (a<3 and (true or true));attr a=1;stage s;", "", "show", "guard s if not (a < 3 and (true or true));\nattr a = 1;\nstage s;\n"},
 		{example, "", "", "unknown"}, {example, "", " check true", "unknown"}, {example, "", "Check true", "unknown"}, {example, "", "checks true", "unknown"}, {example, "", "check\ntrue", "unknown"}, {example, "", "model\tstage s;", "unknown"}, {example, "", "size\n", "unknown"}, {example, "", "\xff", "unknown"},

@@ -5,6 +5,7 @@ import (
 	"math/rand"
 	"reflect"
 	"slices"
+	"strconv"
 	"strings"
 	"testing"
 
@@ -158,6 +159,46 @@ func TestBuiltByHand(t *testing.T) {
 	m.Attrs[0] = "x"
 	if l[5].If[0].Op != api.OpTrue || l[0].Name != "a" {
 		t.Error("shared")
+	}
+}
+
+func TestAtTheLimits(t *testing.T) {
+	var b strings.Builder
+	kinds := []struct {
+		line string
+		most int
+	}{{"attr a# = 1;", api.MaxAttrs}, {"user u#;", api.MaxUsers}, {"role r# = u1;", api.MaxRoles}, {"stage s#;", api.MaxStages}, {"event e# by r0 in s0;", api.MaxEvents}, {"guard s# if a0 = #;", 6}, {"guard s#;", api.MaxGuards - 6}, {"milestone m# of s#;", api.MaxMiles}, {"sod e#, e1;", 1}, {"sod e2, e3;", api.MaxSods - 1}}
+	for _, k := range kinds {
+		for i := range k.most {
+			b.WriteString(strings.ReplaceAll(k.line, "#", strconv.Itoa(i)) + "\n")
+		}
+	}
+	m := read(t, b.String())
+	if !model.Check(m) {
+		t.Error("as much as may be")
+	}
+	if m.Roles[0].Users != 2 {
+		t.Error(m.Roles[0])
+	}
+	for _, k := range kinds {
+		line := strings.ReplaceAll(strings.ReplaceAll(k.line, "s#;", "s0;"), "of s#", "of s0")
+		if _, f, _ := model.Read(b.String() + strings.ReplaceAll(line, "#", "9")); f.Err == api.OK {
+			t.Error("one more", k.line)
+		}
+	}
+}
+
+func TestCircles(t *testing.T) {
+	if model.Check(api.Model{Stages: []api.Stage{{Parent: 0}}}) || model.Check(api.Model{Stages: []api.Stage{{Parent: 1}, {Parent: 0}}}) || !model.Check(api.Model{Stages: []api.Stage{{Parent: 1}, {Parent: -1}}}) {
+		t.Error("check")
+	}
+	l := []api.Stmt{{Kind: api.StUser, Name: "u"}, {Kind: api.StStage, Name: "s", Stage: "t", At: pos(2, 2)}, {Kind: api.StUser, Name: "v"}, {Kind: api.StStage, Name: "t", Stage: "s", At: pos(3, 3)}}
+	kept := slices.Clone(l)
+	if _, f := model.Build(l); f != (api.Fault{Err: api.ErrCycle, At: pos(2, 2)}) {
+		t.Error(f)
+	}
+	if !reflect.DeepEqual(l, kept) {
+		t.Error("what is handed in is changed")
 	}
 }
 

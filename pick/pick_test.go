@@ -179,6 +179,8 @@ func TestValsEdges(t *testing.T) {
 		{z, z, []int{0}, []int64{1, 2}, nil, 0, nil, api.ErrNone}, {z, z, []int{0, 1}, []int64{1, 2}, nil, 1, nil, api.ErrNone}, {z, z, []int{0}, []int64{1, 2}, nil, math.MinInt, nil, api.ErrNone}, {z, z, []int{31}, []int64{1, 2}, nil, 3, nil, api.ErrNone}, {z, zoneOf(nil, 1), []int{0}, []int64{1, 2}, nil, 2, nil, api.ErrNone}, {zoneOf(nil, 1), z, []int{0}, []int64{1, 2}, nil, 2, nil, api.ErrNone},
 		{z, zone.Of([]int64{2, 2}, nil, 1), []int{0}, []int64{1, 2}, nil, 2, []int64{2}, api.OK}, {z, zone.Of([]int64{2, 2}, nil, 1), []int{0}, []int64{7}, nil, 2, nil, api.ErrNone},
 		{zone.Of([]int64{5}, []int64{math.MaxInt64}, 1), zoneOf([]api.Class{class(0, 0), class(1, -1)}, 0), []int{0}, []int64{5}, []int64{math.MaxInt64}, 1, nil, api.ErrRange}, {zone.Of([]int64{5}, []int64{math.MinInt64}, 2), zoneOf([]api.Class{class(1, -1), class(0, 0)}, 1), []int{0}, []int64{5}, []int64{math.MinInt64}, 2, nil, api.ErrRange},
+		// constants that do not rise
+		{zone.Of([]int64{5}, []int64{7, 9}, 1), zone.Of([]int64{9}, []int64{7, 9}, 0), []int{0}, []int64{5}, []int64{9, 7, 9}, 1, []int64{9}, api.OK},
 		// an attribute of which no number is known is told from those that were written
 		{zoneOf([]api.Class{class(1, -1)}), zoneOf([]api.Class{class(3, -1)}), []int{0, 1}, nil, nil, 2, []int64{0, 0}, api.OK},
 	} {
@@ -260,7 +262,7 @@ func TestWay(t *testing.T) {
 	if e != api.OK || len(l) != 3 || l[0].Event != 0 || l[0].User != 0 || !slices.Equal(l[0].Vals, []int64{6}) || l[1].Event != 1 || l[1].User != 1 || l[2].Event != -1 {
 		t.Error(l, e)
 	}
-	for i, way := range [][]int{{-1}, {99}, {2, 5}, {2, 0, -1}, {math.MaxInt}} {
+	for i, way := range [][]int{{-1}, {99}, {len(g.Edges[0])}, {2, 5}, {2, 0, -1}, {math.MaxInt}} {
 		if l, e := pick.Way(m, consts, g, way); len(l) != 0 || e != api.ErrNone {
 			t.Error(i, l, e)
 		}

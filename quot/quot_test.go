@@ -32,6 +32,19 @@ func TestClasses(t *testing.T) {
 	}
 }
 
+func TestManyClasses(t *testing.T) {
+	// class 1, which class 2 follows, and class 12, which none follows; and so on
+	var colour, want []int
+	for i := range 130 {
+		colour, want = append(colour, 1000+i), append(want, i)
+	}
+	next := make([][]int, 130)
+	next[1], next[11], next[2] = []int{2, 3}, []int{2}, []int{11, 1}
+	if g := quot.Classes(next, colour); !slices.Equal(g, want) {
+		t.Error(g)
+	}
+}
+
 func TestFit(t *testing.T) {
 	next := [][]int{{1, 9}, {0}, {2, 2}, {-1}}
 	for i, x := range []struct {
@@ -58,7 +71,7 @@ func TestShrunk(t *testing.T) {
 	}{
 		{[][]int{{1}, {0}, {2}}, []int{0, 0, 0}, [][]int{{0}}}, {[][]int{{2, 1, 2}, {0}, {2, 9, -1}}, []int{0, 1, 2}, [][]int{{1, 2}, {0}, {2}}}, {[][]int{{2, 1}, {0}, {2}}, []int{1, 1, 0}, [][]int{{0}, {0, 1}}}, {nil, nil, nil}, {nil, []int{3, 4}, nil}, {[][]int{{0}}, nil, nil}, {[][]int{{0}}, []int{-1}, nil},
 		// no further than to next's last place; the greatest of all numbers
-		{[][]int{{1}, {0}}, []int{0, 99}, [][]int{{}, {}}}, {[][]int{{1}, {0}}, []int{0, 0, 7}, [][]int{{0}, {}}}, {[][]int{{1}, {0}, {0}}, []int{0, 0, 0, 1}, [][]int{{0}, {}}}, {[][]int{{1}, {0}, {0}}, []int{2, 2, 2}, [][]int{{}, {}, {2}}}, {[][]int{{0}}, []int{math.MaxInt}, [][]int{{}}}, {[][]int{{0}, {1}}, []int{math.MinInt, 0}, [][]int{{0}}},
+		{[][]int{{1}, {0}}, []int{0, 99}, [][]int{{}, {}}}, {[][]int{{1}, {0}}, []int{0, 2}, [][]int{{}, {}}}, {[][]int{{1}, {0}}, []int{0, 0, 7}, [][]int{{0}, {}}}, {[][]int{{1}, {0}, {0}}, []int{0, 0, 0, 1}, [][]int{{0}, {}}}, {[][]int{{1}, {0}, {0}}, []int{2, 2, 2}, [][]int{{}, {}, {2}}}, {[][]int{{0}}, []int{math.MaxInt}, [][]int{{}}}, {[][]int{{0}, {1}}, []int{math.MinInt, 0}, [][]int{{0}}},
 		// a place without a number in class counts as of class 0, numbers of no row for nothing
 		{[][]int{{2}, {1}, {0}}, []int{0, 1}, [][]int{{0}, {1}}}, {[][]int{{1, 2}, {2}, {0}}, []int{1, 0}, [][]int{{0}, {0}}}, {[][]int{{1, 0, 2}, {2}, {0}}, []int{1, -5, 1}, [][]int{{}, {1}}}, {[][]int{{1, 0}, {0}}, []int{1, 8}, [][]int{{}, {1}}},
 		// of several places the first one

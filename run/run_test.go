@@ -104,6 +104,9 @@ func TestLoops(t *testing.T) {
 			t.Error(i, err)
 		}
 	}
+	if err := run.Loops(read(t, ""), []api.Move{idle, idle}, 0); err != api.OK {
+		t.Error("a loop from the begin on", err)
+	}
 	// what is written may come back, the part in an event does not go
 	m = read(t, "attr a = 1; user u; role r = u; stage s; guard s; event e by r in s sets a max 3;")
 	if err := run.Loops(m, []api.Move{move(0, 0, 1), move(0, 0, 1)}, 1); err != api.ErrLoop {

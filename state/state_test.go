@@ -49,6 +49,10 @@ func TestCheck(t *testing.T) {
 			t.Error(i, s)
 		}
 	}
+	many := api.Model{Stages: make([]api.Stage, 31), Miles: make([]api.Mile, 40)}
+	if !state.Check(many, api.State{Open: math.MaxInt32, Done: math.MaxInt32}) || state.Check(many, api.State{Open: 1 << 31}) || state.Check(many, api.State{Done: -1}) {
+		t.Error("all of 31")
+	}
 	for _, change := range []func(s *api.State){func(s *api.State) { s.Open = 0 }, func(s *api.State) { s.Done = 0 }, func(s *api.State) { s.Count[1] = 0 }, func(s *api.State) { s.Did[0] = 2 }} {
 		s := good()
 		change(&s)
@@ -59,7 +63,7 @@ func TestCheck(t *testing.T) {
 }
 
 func TestSound(t *testing.T) {
-	m := api.Model{Stages: []api.Stage{{Parent: -1}, {Parent: 0}, {Parent: 1}, {Parent: 99}, {Parent: -7}}}
+	m := api.Model{Stages: []api.Stage{{Parent: -1}, {Parent: 0}, {Parent: 1}, {Parent: 5}, {Parent: -7}}}
 	for open, want := range map[int]bool{0: true, 1: true, 3: true, 7: true, 2: false, 6: false, 5: false, 4: false, 8: true, 16: true, 25: true, 31: true, 30: false, -1: true, -2: false} {
 		if g := state.Sound(m, api.State{Open: open}); g != want {
 			t.Error(open, g)

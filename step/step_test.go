@@ -42,6 +42,9 @@ func TestBegin(t *testing.T) {
 	if s := step.Begin(m); state.Text(s) != "2 1 2 1 0 2 0 0 2 0 0" {
 		t.Error(state.Text(s))
 	}
+	if s := step.Begin(read(t, "user u; role r = u; stage s; stage t; event e by r in s; guard s; guard t on e;")); s.Open != 1 {
+		t.Error("no event was yet", s)
+	}
 	s := step.Begin(m)
 	s.Vals[0] = 99
 	if m.Inits[0] != 1 {
@@ -112,7 +115,7 @@ func TestMay(t *testing.T) {
 	}{
 		{begin, move(0, 0, 1, 2), api.OK}, {begin, move(0, 1, 1, 2), api.OK}, {begin, step.Idle(), api.ErrStep}, {begin, move(1, 0), api.ErrStep}, {begin, move(0, 2, 1, 2), api.ErrStep}, {begin, move(2, 0), api.ErrStep}, {begin, move(-1, 0), api.ErrStep}, {begin, move(0, -1, 1, 2), api.ErrStep}, {begin, move(-1, -1, 5), api.ErrStep}, {begin, move(math.MinInt, math.MaxInt), api.ErrStep},
 		{begin, move(0, 0), api.ErrForm}, {begin, move(0, 0, 1), api.ErrForm}, {begin, move(0, 0, 1, 2, 3), api.ErrForm}, {after, move(1, 0, 4), api.ErrForm}, {after, move(1, 1, 4), api.ErrStep}, {after, move(0, 0, 1, 2), api.ErrStep}, {after, move(1, 0), api.OK},
-		{end, step.Idle(), api.OK}, {end, move(-1, -1, 5), api.ErrStep}, {end, move(-1, 0), api.ErrStep}, {end, move(0, 0, 1, 2), api.ErrStep}, {end, move(1, 0), api.ErrStep}, {end, api.Move{Event: -1, User: -1, Vals: []int64{}}, api.OK},
+		{end, step.Idle(), api.OK}, {end, move(-1, -1, 5), api.ErrStep}, {end, move(0, -1), api.ErrStep}, {end, move(-2, -1), api.ErrStep}, {end, move(-1, 0), api.ErrStep}, {end, move(0, 0, 1, 2), api.ErrStep}, {end, move(1, 0), api.ErrStep}, {end, api.Move{Event: -1, User: -1, Vals: []int64{}}, api.OK},
 		{bad, move(0, 0, 1, 2), api.ErrState}, {bad, step.Idle(), api.ErrState}, {bad, move(9, 9), api.ErrState}, {api.State{}, step.Idle(), api.ErrState},
 	} {
 		if e := step.May(m, x.s, x.v); e != x.e {
@@ -126,7 +129,7 @@ func TestMay(t *testing.T) {
 
 func TestOddEvents(t *testing.T) {
 	// an attribute that is set twice is the last number; one that there is not is left out
-	m := api.Model{Attrs: []string{"a"}, Inits: []int64{1}, Users: []string{"u"}, Roles: []api.Role{{Users: 1}}, Stages: []api.Stage{{Parent: -1}}, Events: []api.Event{{Sets: []int{0, 0, 5, -1}, Times: 2}}}
+	m := api.Model{Attrs: []string{"a"}, Inits: []int64{1}, Users: []string{"u"}, Roles: []api.Role{{Users: 1}}, Stages: []api.Stage{{Parent: -1}}, Events: []api.Event{{Sets: []int{0, 0, 1, -1}, Times: 2}}}
 	s := api.State{Vals: []int64{1}, Open: 1, Did: []int{0}, Count: []int{0}}
 	g, e := step.Do(m, s, move(0, 0, 3, 4, 5, 6))
 	if e != api.OK || !slices.Equal(g.Vals, []int64{4}) {

@@ -107,6 +107,21 @@ func TestStagesThatThereAreNot(t *testing.T) {
 	}
 }
 
+func TestMoreMilestonesThanGuards(t *testing.T) {
+	// of stage 0 the milestones 0 to 2; one that asks for the first one does not wait for the others of its stage
+	m := api.Model{Stages: []api.Stage{{Parent: -1}}, Guards: []api.Guard{{Stage: 0}, {Stage: 1}}, Miles: []api.Mile{{Stage: 0}, {Stage: 0}, {Stage: 0, If: done(0)}, {Stage: 0, If: open(0)}}}
+	for _, x := range []struct {
+		x    api.Sentry
+		want []api.Sentry
+	}{
+		{guard(0), nil}, {guard(1), nil}, {mile(0), []api.Sentry{guard(0)}}, {mile(2), []api.Sentry{guard(0), mile(0)}}, {mile(3), []api.Sentry{guard(0), mile(0), mile(1), mile(2), mile(3)}},
+	} {
+		if g := waits(m, x.x); !slices.Equal(g, x.want) {
+			t.Error(x.x, g)
+		}
+	}
+}
+
 func TestOrder(t *testing.T) {
 	m := nested()
 	if l, e := strata.Order(m); e != api.OK || !slices.Equal(l, []api.Sentry{guard(0), guard(1), guard(2), guard(3), mile(0), mile(1), mile(2), mile(3)}) {

@@ -26,6 +26,12 @@ func TestRunesExample(t *testing.T) {
 	}
 }
 
+func TestBad(t *testing.T) {
+	if text.Bad != -1 {
+		t.Error(text.Bad)
+	}
+}
+
 func TestRunesOfManyBytes(t *testing.T) {
 	// two, three and four bytes; the replacement rune itself; a surrogate's bytes; a rune that is cut off
 	l, e := text.Runes("\u00e9\u20ac\U0001f600\ufffd\xed\xa0\x80\xe2\x82")

@@ -69,7 +69,7 @@ func TestWhatCantBeAsked(t *testing.T) {
 		}
 	}
 	// what is no comparison has no values
-	if !zeval.Knows([]api.Inst{{Op: api.OpOpen, L: attr(9), R: number(77)}, {Op: 99, L: attr(9)}}, z, consts) {
+	if !zeval.Knows([]api.Inst{{Op: api.OpOpen, L: attr(9), R: number(77)}, {Op: api.OpTrue, L: attr(9)}, {Op: api.OpFalse, R: attr(9)}, {Op: 99, L: attr(9)}}, z, consts) {
 		t.Error("knows")
 	}
 }

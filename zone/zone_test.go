@@ -172,6 +172,12 @@ func TestCheckOfOddZones(t *testing.T) {
 	if zone.Check(good(), 2, nil, 2) || zone.Check(good(), 2, []int64{5}, 2) || zone.Check(good(), 2, []int64{5, 7, 8}, 2) || zone.Check(good(), 2, []int64{5, 8}, 2) {
 		t.Error("other constants")
 	}
+	if zone.Check(zoneOf([]api.Class{class(1, -1), class(0, -1)}, 1), 1, nil, 2) || zone.Check(zoneOf([]api.Class{class(0, 0), class(0, -1), class(1, -1)}, 1, 1), 1, []int64{5}, 2) {
+		t.Error("an empty class")
+	}
+	if zone.Check(zoneOf([]api.Class{class(math.MaxInt32, -1)}), 32, nil, 2) {
+		t.Error("more than 31 attributes")
+	}
 	if !zone.Check(zoneOf([]api.Class{class(math.MaxInt32, -1)}), 31, nil, 2) {
 		t.Error("31 attributes")
 	}
@@ -243,7 +249,7 @@ func TestSameAndText(t *testing.T) {
 		"": {}, "1:-1": zoneOf([]api.Class{class(1, -1)}), "1:0 1 0:1 1 2:-1": zoneOf([]api.Class{class(1, 0), class(0, 1), class(2, -1)}, 1, 1),
 		"1:-1 | 2:-1": zoneOf([]api.Class{class(1, -1), class(2, -1)}), "1:-1 | 2:-1 | 4:5": zoneOf([]api.Class{class(1, -1), class(2, -1), class(4, 5)}), "1:-1 7 2:-1 | 4:5": zoneOf([]api.Class{class(1, -1), class(2, -1), class(4, 5)}, 7),
 		"| 7": zoneOf(nil, 7), "| 7 | 8": zoneOf(nil, 7, 8), "1:-1 7": zoneOf([]api.Class{class(1, -1)}, 7), "1:-1 7 | 8": zoneOf([]api.Class{class(1, -1)}, 7, 8), "-9:-8 -7": zoneOf([]api.Class{class(-9, -8)}, -7), "9223372036854775807:-9223372036854775808": zoneOf([]api.Class{class(math.MaxInt, math.MinInt)}),
-		"1:-1 1 2:-1": zoneOf([]api.Class{class(1, -1), class(2, -1)}, 1), "1:-1 1 2:0": zoneOf([]api.Class{class(1, -1), class(2, 0)}, 1), "1:-1 2 2:0": zoneOf([]api.Class{class(1, -1), class(2, 0)}, 2),
+		"1:-1 1 2:-1": zoneOf([]api.Class{class(1, -1), class(2, -1)}, 1), "1:-1 1 2:0": zoneOf([]api.Class{class(1, -1), class(2, 0)}, 1), "1:-1 2 2:0": zoneOf([]api.Class{class(1, -1), class(2, 0)}, 2), "12:34 56 78:90 -12": zoneOf([]api.Class{class(12, 34), class(78, 90)}, 56, -12),
 	}
 	for a, x := range texts {
 		if g := zone.Text(x); g != a {
