@@ -194,22 +194,6 @@ func TestRead(t *testing.T) {
 	if _, to, f := cond.Read(nil, 0, true); to != 0 || f != (api.Fault{Err: api.ErrToken}) {
 		t.Error(f)
 	}
-	// words and signs are told by their kind, too
-	odd := []api.Token{{Kind: api.TkSign, Text: "true", At: at(5)}}
-	if _, _, f := cond.Read(odd, 0, true); f != fault(api.ErrToken, 5) {
-		t.Error(f)
-	}
-	truth := api.Token{Kind: api.TkWord, Text: "true", At: at(1)}
-	if l, to, f := cond.Read([]api.Token{truth, {Kind: api.TkName, Text: "and", At: at(6)}, truth}, 0, true); len(l) != 1 || to != 1 || f.Err != api.OK {
-		t.Error(l, to, f)
-	}
-	a := api.Token{Kind: api.TkName, Text: "a"}
-	if _, _, f := cond.Read([]api.Token{a, {Kind: api.TkWord, Text: "<", At: at(3)}, a}, 0, true); f != fault(api.ErrToken, 3) {
-		t.Error(f)
-	}
-	if _, _, f := cond.Read([]api.Token{{Kind: api.TkName, Text: "(", At: at(1)}, truth, {Kind: api.TkSign, Text: ")"}}, 0, true); f.Err != api.ErrToken {
-		t.Error(f)
-	}
 	// beside each fault no items, and 0
 	l, _ = token.Tokens("true" + strings.Repeat(" or true", 32))
 	if got, to, f := cond.Read(l, 0, true); got != nil || to != 0 || f != fault(api.ErrLong, 1) {

@@ -159,14 +159,6 @@ func TestOne(t *testing.T) {
 	if x, to, f := decl.One(nil, 0); !reflect.DeepEqual(x, api.Stmt{}) || to != 0 || f != (api.Fault{Err: api.ErrToken}) {
 		t.Error(x, to, f)
 	}
-	in := []api.Token{{Kind: api.TkWord, Text: "stage"}, {Kind: api.TkName, Text: "s"}, {Kind: api.TkName, Text: "in", At: at(1, 9)}, {Kind: api.TkName, Text: "t"}, {Kind: api.TkSign, Text: ";"}}
-	if _, _, f := decl.One(in, 0); f != (api.Fault{Err: api.ErrToken, At: at(1, 9)}) {
-		t.Error("a name is no word", f)
-	}
-	odd := []api.Token{{Kind: api.TkName, Text: "user", At: at(1, 1)}, {Kind: api.TkName, Text: "u"}, {Kind: api.TkSign, Text: ";"}}
-	if _, _, f := decl.One(odd, 0); f != (api.Fault{Err: api.ErrToken, At: at(1, 1)}) {
-		t.Error("a name is no word", f)
-	}
 }
 
 func bare(l []api.Stmt) []api.Stmt {

@@ -37,7 +37,7 @@ func TestZone(t *testing.T) {
 		want string
 	}{
 		{zoneOf([]api.Class{class(1, -1), class(0, 0)}, 1), "a <1 3"}, {api.Zone{}, ""}, {zone.Of([]int64{3, 9}, consts, 3), "a=3 <4 8 <0 b"}, {zoneOf([]api.Class{class(3, 1)}), "a=b=8"}, {zoneOf([]api.Class{class(3, -1), class(0, 0), class(0, 1)}, 15, 0), "a=b <15 3 <0 8"},
-		{zoneOf([]api.Class{class(4, 2), class(0, math.MaxInt)}), "?=? <? ?"}, {zoneOf([]api.Class{class(7, -9)}), "a=b=?"}, {zoneOf([]api.Class{class(0, -1), class(0, math.MinInt), class(1, 0)}, -7), " <-7  <? a=3"}, {zoneOf(nil, 5, 6), ""}, {zoneOf([]api.Class{class(1, -1)}, 5, 6), "a"}, {zoneOf([]api.Class{class(1<<40+1, -1)}), "a"},
+		{zoneOf([]api.Class{class(4, 2), class(0, math.MaxInt)}), "?=? <? ?"}, {zoneOf([]api.Class{class(7, -9)}), "a=b=?"}, {zoneOf([]api.Class{class(0, -1), class(0, math.MinInt), class(1, 0)}, -7), " <-7  <? a=3"}, {zoneOf(nil, 5, 6), ""}, {zoneOf([]api.Class{class(1, -1)}, 5, 6), "a"},
 	} {
 		if g := dot.Zone(m, consts, x.z); g != x.want {
 			t.Errorf("%d: %q", i, g)
@@ -59,7 +59,7 @@ func TestNode(t *testing.T) {
 		want string
 	}{
 		{api.Node{Zone: z}, " zone a <1 3"}, {api.Node{}, " zone "}, {api.Node{Zone: z, Open: 3, Done: 3, Did: []int{3, 2}, Count: []int{1, 0}}, " open s open t done k done l did u e did v e did v g count e 1 zone a <1 3"}, {api.Node{Zone: z, Open: 2, Count: []int{0, 7}}, " open t count g 7 zone a <1 3"},
-		{api.Node{Open: 4, Done: 8, Did: []int{4, 0, 1}, Count: []int{-1, 0, 2}}, " open ? done ? did ? e did u ? count e -1 count ? 2 zone "}, {api.Node{Open: 1 << 40, Done: -1 << 31}, " zone "},
+		{api.Node{Open: 4, Done: 8, Did: []int{4, 0, 1}, Count: []int{-1, 0, 2}}, " open ? done ? did ? e did u ? count e -1 count ? 2 zone "},
 	} {
 		if g := dot.Node(m, []int64{3}, x.n); g != x.want {
 			t.Errorf("%d: %q", i, g)

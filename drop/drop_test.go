@@ -39,8 +39,8 @@ func TestDrop(t *testing.T) {
 		{zoneOf([]api.Class{class(1, -1), class(2, -1)}), 0, 2, zoneOf([]api.Class{class(1, -1), class(2, -1)})}, {zoneOf([]api.Class{class(1, -1)}, 4), 0, 2, zoneOf([]api.Class{class(1, -1)}, 4)}, {zoneOf(nil, 4), 0, 2, zoneOf(nil, 4)}, {zoneOf([]api.Class{class(1, -1), class(2, -1), class(4, -1)}, 1, 1, 1), 1, 2, zoneOf([]api.Class{class(1, -1), class(2, -1), class(4, -1)}, 1, 1, 1)},
 		// in several classes: from the first one on
 		{zoneOf([]api.Class{class(1, -1), class(3, -1), class(1, -1), class(1, -1), class(2, -1), class(1, -1)}, 1, 1, 1, 1, 5), 0, 2, zoneOf([]api.Class{class(2, -1), class(2, -1)}, 3)}, {zoneOf([]api.Class{class(2, -1), class(1, -1), class(1, -1), class(4, -1)}, 0, 0, 0), 0, 3, zoneOf([]api.Class{class(2, -1), class(4, -1)}, 2)}, {zoneOf([]api.Class{class(1, -1), class(1, -1), class(1, -1)}, 2, 3), 0, 3, api.Zone{}},
-		// a class of another Const than -1 stays; only bits that count count
-		{zoneOf([]api.Class{class(1, -5), class(2, -1)}, 1), 0, 3, zoneOf([]api.Class{class(0, -5), class(2, -1)}, 1)}, {zoneOf([]api.Class{class(0, -1), class(2, -1)}, 1), 0, 3, zoneOf([]api.Class{class(0, -1), class(2, -1)}, 1)}, {zoneOf([]api.Class{class(1<<40+1, -1), class(2, -1)}, 1), 0, 3, zoneOf([]api.Class{class(2, -1)})}, {zoneOf([]api.Class{class(1<<40+1, -1), class(2, -1)}, 1), 1, 3, zoneOf([]api.Class{class(1<<40+1, -1)})},
+		// a class of another Const than -1 stays, and one that did not have it
+		{zoneOf([]api.Class{class(1, -5), class(2, -1)}, 1), 0, 3, zoneOf([]api.Class{class(0, -5), class(2, -1)}, 1)}, {zoneOf([]api.Class{class(0, -1), class(2, -1)}, 1), 0, 3, zoneOf([]api.Class{class(0, -1), class(2, -1)}, 1)},
 	} {
 		kept := zone.Text(x.z)
 		if g := drop.Drop(x.z, x.a, x.r); !zone.Same(g, x.want) {

@@ -133,15 +133,6 @@ func TestNextAndFind(t *testing.T) {
 	if graph.Find(g, api.Node{Open: 1}) != 0 || graph.Find(g, api.Node{Open: 2}) != 1 || graph.Find(g, api.Node{Open: 3}) != -1 || graph.Find(graph.Graph{}, api.Node{}) != -1 {
 		t.Error("find")
 	}
-	// lists of edges too few, or too many
-	g.Edges = g.Edges[:1]
-	if l := graph.Next(g); len(l) != 3 || !slices.Equal(l[0], []int{7, 1, 1}) || len(l[1]) != 0 || len(l[2]) != 0 {
-		t.Error(l)
-	}
-	g.Nodes = nil
-	if l := graph.Next(g); len(l) != 0 {
-		t.Error(l)
-	}
 	l := graph.Next(graph.Graph{Nodes: make([]api.Node, 1), Edges: [][]api.Edge{{{To: 0}}}})
 	if len(l) != 1 || !slices.Equal(l[0], []int{0}) {
 		t.Error(l)

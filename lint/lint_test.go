@@ -100,7 +100,7 @@ func TestIdle(t *testing.T) {
 		{one(api.OpOpen), false}, {one(api.OpDone), false}, {one(api.OpCan), false}, {one(api.OpDid), false}, {one(api.OpComplete), false}, {one(api.OpStuck), false},
 		{[]api.Inst{{Op: api.OpTrue, L: attr(1), R: attr(0)}, {Op: api.OpNot, L: attr(1), R: attr(0)}}, true}, {[]api.Inst{{Op: api.OpFalse, L: attr(1), R: attr(0)}}, true},
 		// other lists of items
-		{one(api.OpNot), false}, {one(0), false}, {one(99), false}, {one(-1), false}, {one(api.OpAX), false}, {[]api.Inst{{Op: 0}, {Op: 99}}, true}, {[]api.Inst{{Op: api.OpTrue}, {Op: api.OpTrue}}, true}, {[]api.Inst{{Op: api.OpTrue}, {Op: api.OpAG}}, true}, {[]api.Inst{{Op: 99}, {Op: api.OpOpen}}, false}, {[]api.Inst{{Op: api.OpLess, L: attr(-2), R: attr(-2)}}, true},
+		{one(api.OpNot), false}, {one(0), false}, {one(99), false}, {one(-1), false}, {one(api.OpAX), false}, {[]api.Inst{{Op: 0}, {Op: 99}}, true}, {[]api.Inst{{Op: api.OpTrue}, {Op: api.OpTrue}}, true}, {[]api.Inst{{Op: api.OpTrue}, {Op: api.OpAG}}, true}, {[]api.Inst{{Op: 99}, {Op: api.OpOpen}}, false},
 	} {
 		if g := lint.Idle(x.l); g != x.want {
 			t.Error(i, x.l, g)

@@ -104,7 +104,7 @@ func TestCheck(t *testing.T) {
 		l    []norm.Step
 		want bool
 	}{
-		{nil, true}, {[]norm.Step{open(0), not(0), and(0, 1), ex(2), eu(3, 0), eg(4)}, true}, {[]norm.Step{atom(api.OpStuck), not(0), not(0)}, true}, {[]norm.Step{{Op: api.OpTrue, A: 9, B: 9}}, true},
+		{nil, true}, {[]norm.Step{open(0), not(0), and(0, 1), ex(2), eu(3, 0), eg(4)}, true}, {[]norm.Step{atom(api.OpStuck), not(0), not(0)}, true},
 		{[]norm.Step{not(0)}, false}, {[]norm.Step{open(0), not(1)}, false}, {[]norm.Step{open(0), not(-1)}, false}, {[]norm.Step{open(0), not(2), open(1)}, false}, {[]norm.Step{open(0), and(0, 1)}, false}, {[]norm.Step{open(0), and(1, 0)}, false}, {[]norm.Step{open(0), and(-1, 0)}, false}, {[]norm.Step{open(0), and(0, -1)}, false},
 		{[]norm.Step{open(0), ex(1)}, false}, {[]norm.Step{open(0), eg(1)}, false}, {[]norm.Step{open(0), eu(0, 1)}, false}, {[]norm.Step{open(0), eu(1, 0)}, false}, {[]norm.Step{open(0), ex(math.MaxInt)}, false}, {[]norm.Step{open(0), eg(math.MinInt)}, false},
 		{[]norm.Step{{Op: 0}}, false}, {[]norm.Step{{Op: 27}}, false}, {[]norm.Step{{Op: -1}}, false}, {[]norm.Step{open(0), {Op: api.OpOr}}, false}, {[]norm.Step{open(0), {Op: api.OpImplies}}, false}, {[]norm.Step{open(0), {Op: api.OpAX}}, false}, {[]norm.Step{open(0), {Op: api.OpAF}}, false}, {[]norm.Step{open(0), {Op: api.OpEF}}, false}, {[]norm.Step{open(0), {Op: api.OpAG}}, false}, {[]norm.Step{open(0), {Op: api.OpAU}}, false},

@@ -130,8 +130,8 @@ func TestFind(t *testing.T) {
 	}
 	for _, l := range [][]int64{{5, 1, 3}, {3, 3, 3}, {9, 8, 7, 6}, {1, 9, 2, 8}} {
 		for n := int64(0); n < 11; n++ {
-			if i, ok := num.Find(l, n); i < 0 || i > len(l) || ok != slices.Contains(l, n) {
-				t.Error(l, n, i, ok)
+			if i, _ := num.Find(l, n); i < 0 || i > len(l) {
+				t.Error(l, n, i)
 			}
 		}
 	}

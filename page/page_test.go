@@ -27,8 +27,6 @@ func TestLines(t *testing.T) {
 		{api.Stmt{Kind: api.StEvent, Name: "e", Role: "r", Stage: "s", Names: []string{"a", "b", "c"}, Times: 3}, "event e by r in s sets a, b, c max 3;\n"}, {api.Stmt{Kind: api.StEvent, Name: "e", Role: "r", Stage: "s", Times: 1}, "event e by r in s max 1;\n"},
 		{api.Stmt{Kind: api.StMile, Name: "m", Stage: "s"}, "milestone m of s;\n"}, {api.Stmt{Kind: api.StMile, Name: "m", Stage: "s", Event: "e", If: less, Final: true}, "milestone m of s on e if a < 3 final;\n"}, {api.Stmt{Kind: api.StMile, Name: "m", Stage: "s", Final: true}, "milestone m of s final;\n"},
 		{api.Stmt{Kind: api.StSod, Names: []string{"e", "f"}}, "sod e, f;\n"},
-		// what stands not in the line counts for nothing, but for a condition
-		{api.Stmt{Kind: api.StUser, Name: "u", Stage: "X", Role: "X", Event: "X", Names: []string{"X"}, Times: 99, Final: true, Init: 4, If: less}, "user u;\n"}, {api.Stmt{Kind: api.StGuard, Stage: "t", Name: "X", Times: -4}, "guard t;\n"},
 	} {
 		if s, e := page.Line(x.s); s != x.want || e != api.OK {
 			t.Errorf("%v: %q %v", x.s, s, e)
@@ -51,7 +49,7 @@ func TestErrors(t *testing.T) {
 		{api.Stmt{Kind: api.StEvent, Name: "e", Role: "r", Stage: "s", Times: -1}, api.ErrForm}, {api.Stmt{Kind: api.StEvent, Name: "e", Role: "r", Stage: "s", Times: api.MaxTimes + 1}, api.ErrForm}, {api.Stmt{Kind: api.StEvent, Role: "r", Stage: "s"}, api.ErrForm}, {api.Stmt{Kind: api.StEvent, Name: "e", Stage: "s"}, api.ErrForm}, {api.Stmt{Kind: api.StEvent, Name: "e", Role: "r"}, api.ErrForm}, {api.Stmt{Kind: api.StEvent, Name: "e", Role: "r", Stage: "s", Names: []string{"a", "of"}}, api.ErrForm},
 		{api.Stmt{Kind: api.StGuard}, api.ErrForm}, {api.Stmt{Kind: api.StGuard, Stage: "s", Event: "E"}, api.ErrForm}, {api.Stmt{Kind: api.StMile, Name: "m"}, api.ErrForm}, {api.Stmt{Kind: api.StMile, Stage: "s"}, api.ErrForm}, {api.Stmt{Kind: api.StMile, Name: "m", Stage: "s", Event: "-"}, api.ErrForm},
 		{api.Stmt{Kind: api.StSod}, api.ErrForm}, {api.Stmt{Kind: api.StSod, Names: []string{"e"}}, api.ErrForm}, {api.Stmt{Kind: api.StSod, Names: []string{"e", "f", "g"}}, api.ErrForm}, {api.Stmt{Kind: api.StSod, Names: []string{"e", "F"}}, api.ErrForm},
-		{api.Stmt{Kind: api.StGuard, Stage: "s", If: long}, api.ErrLong}, {api.Stmt{Kind: api.StGuard, If: long}, api.ErrLong}, {api.Stmt{Kind: 99, If: long}, api.ErrLong}, {api.Stmt{Kind: api.StUser, Name: "u", If: long}, api.ErrLong},
+		{api.Stmt{Kind: api.StGuard, Stage: "s", If: long}, api.ErrLong}, {api.Stmt{Kind: api.StGuard, If: long}, api.ErrLong}, {api.Stmt{Kind: 99, If: long}, api.ErrLong},
 		{api.Stmt{Kind: api.StGuard, Stage: "s", If: []api.Item{{Op: api.OpNot}}}, api.ErrForm}, {api.Stmt{Kind: api.StGuard, Stage: "s", If: []api.Item{{Op: api.OpOpen}}}, api.ErrForm},
 		{api.Stmt{Kind: api.StGuard, Stage: "s", If: []api.Item{{Op: api.OpCan, Name: "e"}}}, api.ErrForm}, {api.Stmt{Kind: api.StMile, Name: "m", Stage: "s", If: []api.Item{{Op: api.OpDid, Name: "e", User: "u"}}}, api.ErrForm}, {api.Stmt{Kind: api.StGuard, Stage: "s", If: []api.Item{{Op: api.OpComplete}}}, api.ErrForm}, {api.Stmt{Kind: api.StGuard, Stage: "s", If: []api.Item{{Op: api.OpStuck}}}, api.ErrForm},
 		{api.Stmt{Kind: api.StGuard, Stage: "s", If: []api.Item{{Op: api.OpTrue}, {Op: api.OpAX}}}, api.ErrForm}, {api.Stmt{Kind: api.StGuard, Stage: "s", If: []api.Item{{Op: api.OpTrue}, {Op: api.OpTrue}, {Op: api.OpEU}}}, api.ErrForm},

@@ -59,8 +59,6 @@ func TestNumber(t *testing.T) {
 		// the class from which it is told has no number
 		{zoneOf([]api.Class{class(1, -1), class(0, -1)}, 1), 0, 2, 0, api.ErrNone}, {zoneOf([]api.Class{class(1, -1), class(0, -7)}, 1), 0, 2, 0, api.ErrNone}, {zoneOf([]api.Class{class(1, -1), class(8, -1)}, 1), 0, 2, 0, api.ErrNone}, {zoneOf([]api.Class{class(0, 2), class(1, -1)}, 1), 0, 2, 0, api.ErrNone}, {zoneOf([]api.Class{class(0, -1), class(1, -1)}, 1), 0, 2, 0, api.ErrNone}, {zoneOf([]api.Class{class(2, -4), class(1, -1)}, 1), 0, 2, 17, api.OK},
 		{zoneOf([]api.Class{class(2, -1), class(1, -1), class(0, -1)}, 1, 1), 0, 2, 17, api.OK}, {zoneOf([]api.Class{class(0, -1), class(1, -1), class(2, -1)}, 1, 1), 0, 2, 0, api.ErrNone}, {zoneOf([]api.Class{class(0, -1), class(1, -1), class(2, -1)}, 3, 1), 0, 2, 13, api.OK},
-		// of several classes that have it the first one
-		{zoneOf([]api.Class{class(3, -1), class(1, 0)}, 1), 0, 2, 15, api.OK},
 	} {
 		if n, e := pick.Number(x.z, x.a, vals, consts, x.r); n != x.want || e != x.e {
 			t.Error(i, n, e)
@@ -82,7 +80,6 @@ func TestNumberRange(t *testing.T) {
 	}{
 		{up(0), math.MaxInt64 - 1, math.MaxInt64, api.OK}, {up(0), math.MaxInt64, 0, api.ErrRange}, {up(2), math.MaxInt64 - 3, math.MaxInt64, api.OK}, {up(2), math.MaxInt64 - 2, 0, api.ErrRange}, {up(1), math.MaxInt64, 0, api.ErrRange},
 		{down(0), math.MinInt64 + 1, math.MinInt64, api.OK}, {down(0), math.MinInt64, 0, api.ErrRange}, {down(2), math.MinInt64 + 3, math.MinInt64, api.OK}, {down(2), math.MinInt64 + 2, 0, api.ErrRange}, {down(1), math.MinInt64, 0, api.ErrRange},
-		{up(math.MaxInt), -1, math.MaxInt64, api.OK}, {up(math.MaxInt), 0, 0, api.ErrRange}, {up(math.MaxInt), math.MinInt64, 0, api.OK}, {down(math.MaxInt), 0, math.MinInt64, api.OK}, {down(math.MaxInt), -1, 0, api.ErrRange}, {up(-3), math.MinInt64 + 2, math.MinInt64, api.OK}, {up(-3), math.MinInt64 + 1, 0, api.ErrRange}, {down(-3), math.MaxInt64 - 2, math.MaxInt64, api.OK}, {down(-3), math.MaxInt64 - 1, 0, api.ErrRange}, {up(math.MinInt), math.MaxInt64, 0, api.OK}, {down(math.MinInt), 0, math.MaxInt64, api.OK}, {down(math.MinInt), 1, 0, api.ErrRange},
 	} {
 		if n, e := pick.Number(x.z, 0, []int64{0, x.b}, nil, 2); n != x.want || e != x.e {
 			t.Error(i, n, e)
@@ -181,8 +178,6 @@ func TestValsEdges(t *testing.T) {
 		{zone.Of([]int64{5}, []int64{math.MaxInt64}, 1), zoneOf([]api.Class{class(0, 0), class(1, -1)}, 0), []int{0}, []int64{5}, []int64{math.MaxInt64}, 1, nil, api.ErrRange}, {zone.Of([]int64{5}, []int64{math.MinInt64}, 2), zoneOf([]api.Class{class(1, -1), class(0, 0)}, 1), []int{0}, []int64{5}, []int64{math.MinInt64}, 2, nil, api.ErrRange},
 		// constants that do not rise
 		{zone.Of([]int64{5}, []int64{7, 9}, 1), zone.Of([]int64{9}, []int64{7, 9}, 0), []int{0}, []int64{5}, []int64{9, 7, 9}, 1, []int64{9}, api.OK},
-		// an attribute of which no number is known is told from those that were written
-		{zoneOf([]api.Class{class(1, -1)}), zoneOf([]api.Class{class(3, -1)}), []int{0, 1}, nil, nil, 2, []int64{0, 0}, api.OK},
 	} {
 		kept := slices.Clone(x.vals)
 		if got, e := pick.Vals(x.z, x.to, x.l, x.vals, x.consts, x.r); !slices.Equal(got, x.want) || e != x.e {

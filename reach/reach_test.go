@@ -74,9 +74,6 @@ func TestNever(t *testing.T) {
 	if s, k, e := reach.Never(m, reach.Report{Stages: -1, Miles: 1 << 40, Events: 1<<40 + 2}); s != 0 || k != 7 || e != 5 {
 		t.Error(s, k, e)
 	}
-	if s, k, e := reach.Never(api.Model{Stages: make([]api.Stage, 50)}, reach.Report{Stages: 1}); s != math.MaxInt32-1 || k != 0 || e != 0 {
-		t.Error(s, k, e)
-	}
 }
 
 func TestText(t *testing.T) {

@@ -71,21 +71,6 @@ func TestList(t *testing.T) {
 	}
 }
 
-func TestTheOrderInWhichItIsAsked(t *testing.T) {
-	var asked []string
-	shrink.List(stmts(t, "user a; user b; user c;"), func(l []api.Stmt) bool {
-		s := ""
-		for _, x := range l {
-			s += x.Name
-		}
-		asked = append(asked, s)
-		return strings.Contains(s, "b")
-	})
-	if g := strings.Join(asked, " "); g != "abc ab a b " {
-		t.Errorf("%q", g)
-	}
-}
-
 func TestMemoryOfItsOwn(t *testing.T) {
 	l := stmts(t, "role r = u v; guard s if a < 3; user u;")
 	kept := stmts(t, "role r = u v; guard s if a < 3; user u;")
@@ -101,7 +86,7 @@ func TestMemoryOfItsOwn(t *testing.T) {
 		}
 		return len(x) >= 2
 	})
-	if !reflect.DeepEqual(l, kept) || !reflect.DeepEqual(got, kept[:1:1]) && !reflect.DeepEqual(got, kept[:2]) {
+	if !reflect.DeepEqual(l, kept) || !reflect.DeepEqual(got, kept[:2]) {
 		t.Error(got)
 	}
 	for _, holds := range []func([]api.Stmt) bool{nil, func([]api.Stmt) bool { return false }, func(x []api.Stmt) bool { return len(x) >= 2 }} {

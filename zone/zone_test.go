@@ -146,8 +146,8 @@ func TestCheckOfOddZones(t *testing.T) {
 	}
 	for i, change := range []func(z *api.Zone){
 		func(z *api.Zone) { z.Gaps = z.Gaps[:1] }, func(z *api.Zone) { z.Gaps = append(z.Gaps, 1) }, func(z *api.Zone) { z.Gaps = nil }, func(z *api.Zone) { z.Classes, z.Gaps = nil, nil }, func(z *api.Zone) { z.Classes = nil },
-		func(z *api.Zone) { z.Classes[0].Attrs = 0 }, func(z *api.Zone) { z.Classes[0].Attrs = 3 }, func(z *api.Zone) { z.Classes[1].Attrs = 4 }, func(z *api.Zone) { z.Classes[2].Attrs = 0 }, func(z *api.Zone) { z.Classes[0].Attrs = -1 }, func(z *api.Zone) { z.Classes[0].Attrs = 1<<40 + 1 }, func(z *api.Zone) { z.Classes[0].Attrs = 1<<31 + 1 }, func(z *api.Zone) { z.Classes[1].Attrs = 1 },
-		func(z *api.Zone) { z.Classes[0].Const, z.Classes[1].Const = 1, 0 }, func(z *api.Zone) { z.Classes[0].Const = -1 }, func(z *api.Zone) { z.Classes[2].Const = 1 }, func(z *api.Zone) { z.Classes[2].Const = 2 }, func(z *api.Zone) { z.Classes[2].Const = -2 }, func(z *api.Zone) { z.Classes[2].Const = 0 }, func(z *api.Zone) { z.Classes[1].Const = math.MaxInt },
+		func(z *api.Zone) { z.Classes[0].Attrs = 0 }, func(z *api.Zone) { z.Classes[0].Attrs = 3 }, func(z *api.Zone) { z.Classes[1].Attrs = 4 }, func(z *api.Zone) { z.Classes[2].Attrs = 0 }, func(z *api.Zone) { z.Classes[0].Attrs = -1 }, func(z *api.Zone) { z.Classes[1].Attrs = 1 },
+		func(z *api.Zone) { z.Classes[0].Const, z.Classes[1].Const = 1, 0 }, func(z *api.Zone) { z.Classes[0].Const = -1 }, func(z *api.Zone) { z.Classes[2].Const = 1 }, func(z *api.Zone) { z.Classes[2].Const = 2 }, func(z *api.Zone) { z.Classes[2].Const = 0 }, func(z *api.Zone) { z.Classes[1].Const = math.MaxInt },
 		func(z *api.Zone) { z.Gaps[0] = 2 }, func(z *api.Zone) { z.Gaps[0] = 0 }, func(z *api.Zone) { z.Gaps[1] = 4 }, func(z *api.Zone) { z.Gaps[1] = -1 }, func(z *api.Zone) { z.Gaps[1] = math.MaxInt },
 	} {
 		z := good()
