@@ -58,7 +58,7 @@ func TestReady(t *testing.T) {
 		{guard(0), 0, -1, true}, {guard(0), 0, 0, true}, {guard(0), 0, 1, true}, {guard(0), 1, 1, false}, {guard(0), 14, 1, true},
 		{guard(1), 1, 1, true}, {guard(1), 1, 0, false}, {guard(1), 1, -1, false}, {guard(1), 0, 1, false}, {guard(1), 3, 1, false}, {guard(1), 13, 1, true}, {guard(2), 1, 1, false}, {guard(2), 3, 1, true}, {guard(2), 2, 1, true}, {guard(3), 0, 1, true}, {guard(3), 8, 1, false}, {guard(3), 0, 0, false},
 		{mile(0), 1, -1, true}, {mile(0), 1, 0, true}, {mile(0), 0, 0, false}, {mile(1), 2, 1, true}, {mile(1), 3, 1, true}, {mile(1), 3, 0, false}, {mile(1), 3, -1, false}, {mile(1), 1, 1, false}, {mile(3), 8, 1, true},
-		{guard(4), 0, 0, false}, {guard(-1), 0, 0, false}, {mile(4), 15, 0, false}, {mile(-1), 15, 0, false}, {guard(4), 0, -1, false}, {mile(4), 15, -1, false},
+		{mile(4), 0, 0, false}, {mile(-1), 0, 0, false}, {guard(4), 0, 0, false}, {guard(-1), 0, 0, false}, {mile(4), 15, 0, false}, {mile(-1), 15, 0, false}, {guard(4), 0, -1, false}, {mile(4), 15, -1, false},
 		{guard(4), 15, 1, false}, {guard(-1), 0, 1, false}, {mile(4), 15, 1, false}, {mile(-1), 15, 1, false}, {guard(math.MaxInt), 0, 1, false}, {mile(math.MinInt), 15, 1, false},
 	} {
 		s := api.State{Open: x.open}

@@ -130,6 +130,12 @@ func TestRead(t *testing.T) {
 			t.Error(i, e)
 		}
 	}
+	// numbers of how many that nobody could go through
+	for _, s := range []string{"9223372036854775807 0 0 0 0", "0 0 0 9223372036854775807 0", "0 0 0 0 9223372036854775807", "9223372036854775807"} {
+		if g, e := state.Read(s); e == api.OK || !state.Same(g, api.State{}) {
+			t.Errorf("%q: %v %v", s, g, e)
+		}
+	}
 	full := "100" + list(100, "7") + " 1 2 100" + list(100, "8") + " 100" + list(100, "9")
 	if g, e := state.Read(full); e != api.OK || state.Text(g) != full || len(g.Vals) != 100 || g.Did[99] != 8 || g.Count[99] != 9 || g.Open != 1 || g.Done != 2 {
 		t.Error("as long as may be", e)
