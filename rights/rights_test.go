@@ -104,12 +104,38 @@ func TestEnabled(t *testing.T) {
 			t.Error(i, g)
 		}
 	}
-	// a sod that names events that there are not keeps nobody from anything
-	m, s := base()
-	m.Sods = []api.Sod{{A: 0, B: 9}, {A: -1, B: 0}}
-	s.Did = []int{3, 3, 3}
-	if !rights.Enabled(m, s, 0, 0) {
-		t.Error("an event that there is not")
+}
+
+// TestBeyond: what a state has in Did counts, of events that the model does not have, too.
+func TestBeyond(t *testing.T) {
+	all := [][2]int{{0, 0}, {0, 1}, {1, 0}, {1, 1}, {2, 1}}
+	for i, x := range []struct {
+		sods []api.Sod
+		did  []int
+		want [][2]int
+	}{
+		{[]api.Sod{{A: 0, B: 3}}, []int{0, 0, 0, 1}, all[1:]}, {[]api.Sod{{A: 3, B: 0}}, []int{0, 0, 0, 1}, all[1:]}, {[]api.Sod{{A: 0, B: 3}}, []int{0, 0, 0, 2}, [][2]int{{0, 0}, {1, 0}, {1, 1}, {2, 1}}}, {[]api.Sod{{A: 0, B: 3}}, []int{0, 0, 0, 3}, all[2:]}, {[]api.Sod{{A: 40, B: 2}}, append(make([]int, 40), 2), all[:4]},
+		// another user, another event, a Did that the state has not, no event at all
+		{[]api.Sod{{A: 0, B: 3}}, []int{0, 0, 0, 4}, all}, {[]api.Sod{{A: 0, B: 4}}, []int{0, 0, 0, 3}, all}, {[]api.Sod{{A: 0, B: 3}}, []int{3, 3, 3}, all}, {[]api.Sod{{A: 3, B: 4}}, []int{0, 0, 0, 3, 3}, all}, {[]api.Sod{{A: 0, B: 9}, {A: -1, B: 0}, {A: 0, B: math.MinInt}, {A: math.MaxInt, B: 0}}, []int{3, 3, 3, 3}, all},
+	} {
+		m, s := base()
+		m.Sods, s.Did = x.sods, x.did
+		if g := pairs(m, s, rights.Enabled); !slices.Equal(g, x.want) {
+			t.Error(i, g)
+		}
+		if g := pairs(m, s, rights.Free); !slices.Equal(g, all) {
+			t.Error("free", i, g)
+		}
+	}
+	// the one event there is, and another one, that there is not
+	m := api.Model{Users: []string{"u"}, Roles: []api.Role{{Users: 1}}, Stages: []api.Stage{{Parent: -1}}, Events: []api.Event{{}}, Sods: []api.Sod{{A: 0, B: 1}}}
+	s := api.State{Open: 1, Did: []int{0, 1}, Count: []int{0, 0}}
+	if !rights.Free(m, s, 0, 0) || rights.Enabled(m, s, 0, 0) || len(rights.Who(m, s, 0)) > 0 || rights.Can(m, s, 0) || rights.Any(m, s) || !rights.Stuck(m, s) {
+		t.Error("had a part in the other one")
+	}
+	s.Did = s.Did[:1]
+	if !rights.Enabled(m, s, 0, 0) || !slices.Equal(rights.Who(m, s, 0), []int{0}) || !rights.Can(m, s, 0) || !rights.Any(m, s) || rights.Stuck(m, s) {
+		t.Error("what lies behind the list's end is no Did of the state")
 	}
 }
 
@@ -139,6 +165,16 @@ func TestStuck(t *testing.T) {
 	}
 }
 
+// apart tells whether a user had a part in an event that a sod names together with this one, by all that the state has in Did.
+func apart(m api.Model, s api.State, event, user int) bool {
+	for other, users := range s.Did {
+		if users>>user&1 == 1 && (slices.Contains(m.Sods, api.Sod{A: event, B: other}) || slices.Contains(m.Sods, api.Sod{A: other, B: event})) {
+			return true
+		}
+	}
+	return false
+}
+
 func TestItFollows(t *testing.T) {
 	rnd := rand.New(rand.NewSource(17))
 	stuck := 0
@@ -149,6 +185,11 @@ func TestItFollows(t *testing.T) {
 			m.Events = append(m.Events, api.Event{Role: rnd.Intn(2), Stage: rnd.Intn(2), Times: rnd.Intn(3)})
 			s.Did, s.Count = append(s.Did, rnd.Intn(8)), append(s.Count, rnd.Intn(3))
 		}
+		// a state may have more, or less, than the model has events
+		for range rnd.Intn(3) {
+			s.Did = append(s.Did, rnd.Intn(8))
+		}
+		s.Did = s.Did[min(rnd.Intn(2)*rnd.Intn(2), len(s.Did)):]
 		for range rnd.Intn(4) {
 			m.Sods = append(m.Sods, api.Sod{A: rnd.Intn(4), B: rnd.Intn(4)})
 		}
@@ -159,6 +200,9 @@ func TestItFollows(t *testing.T) {
 				f, n := rights.Free(m, s, e, u), rights.Enabled(m, s, e, u)
 				if n && !f {
 					t.Fatal("enabled, not free")
+				}
+				if n != (f && !apart(m, s, e, u)) {
+					t.Fatal("enabled", m, s, e, u)
 				}
 				free = free || f
 				any = any || n

@@ -97,6 +97,11 @@ func TestKept(t *testing.T) {
 	if g := sod.Kept(m, step.Begin(m)); len(g) != 0 {
 		t.Error(g)
 	}
+	// a Did counts, of an event that the model does not have, too
+	m.Sods = []api.Sod{{A: 0, B: 4}, {A: 5, B: 1}}
+	if g := sod.Kept(m, api.State{Open: 1, Did: []int{0, 0, 0, 0, 1, 3}}); !slices.Equal(g, [][2]int{{0, 0}, {1, 1}}) {
+		t.Error(g)
+	}
 	if len(sod.Kept(api.Model{}, api.State{})) != 0 {
 		t.Error("of nothing")
 	}
