@@ -69,6 +69,58 @@ func TestNumber(t *testing.T) {
 	}
 }
 
+// TestNumberTwice: where a stands in more classes than one, it counts for nothing in the one from which its number is told.
+func TestNumberTwice(t *testing.T) {
+	consts := []int64{10, 20}
+	vals := []int64{99, 15, 18}
+	for i, x := range []struct {
+		z    api.Zone
+		a    int
+		want int64
+		e    api.Errno
+	}{
+		// from the class behind: its constant, or the least other attribute
+		{zoneOf([]api.Class{class(1, -1), class(3, -1)}, 1), 0, 13, api.OK}, {zoneOf([]api.Class{class(1, -1), class(7, -1)}, 1), 0, 13, api.OK}, {zoneOf([]api.Class{class(1, -1), class(5, -1)}, 1), 0, 16, api.OK}, {zoneOf([]api.Class{class(2, -1), class(3, -1)}, 1), 1, 97, api.OK}, {zoneOf([]api.Class{class(4, -1), class(6, -1)}, 1), 2, 13, api.OK}, {zoneOf([]api.Class{class(1, -1), class(1, 0)}, 1), 0, 8, api.OK}, {zoneOf([]api.Class{class(1, -1), class(3, 0)}, 1), 0, 8, api.OK}, {zoneOf([]api.Class{class(4, -1), class(1, -1), class(3, -1)}, 3, 1), 0, 13, api.OK}, {zoneOf([]api.Class{class(8, -1), class(10, -1)}, 1), 3, 13, api.OK},
+		// the class behind has neither, or an attribute beyond the numbers
+		{zoneOf([]api.Class{class(1, -1), class(1, -1)}, 1), 0, 0, api.ErrNone}, {zoneOf([]api.Class{class(1, -4), class(1, -7)}, 1), 0, 0, api.ErrNone}, {zoneOf([]api.Class{class(4, -1), class(1, -1), class(1, -1)}, 3, 1), 0, 0, api.ErrNone}, {zoneOf([]api.Class{class(1, -1), class(9, -1)}, 1), 0, 0, api.ErrNone}, {zoneOf([]api.Class{class(1, -1), class(3, 2)}, 1), 0, 0, api.ErrNone},
+		// from the first class that has it, or from the one ahead of that
+		{zoneOf([]api.Class{class(3, -1), class(1, -1)}, 1), 0, 15, api.OK}, {zoneOf([]api.Class{class(1, 0), class(1, -1)}, 1), 0, 10, api.OK}, {zoneOf([]api.Class{class(1, 0), class(3, -1), class(1, -1)}, 1, 1), 0, 10, api.OK}, {zoneOf([]api.Class{class(4, -1), class(1, -1), class(3, -1)}, 1, 1), 0, 20, api.OK}, {zoneOf([]api.Class{class(4, -1), class(1, -1), class(1, -1)}, 1, 1), 0, 20, api.OK},
+	} {
+		if n, e := pick.Number(x.z, x.a, vals, consts, 2); n != x.want || e != x.e {
+			t.Error(i, n, e)
+		}
+	}
+}
+
+// TestNumberOfOthers: the number of an attribute hangs on those of the others alone, in zones of anything.
+func TestNumberOfOthers(t *testing.T) {
+	rnd := rand.New(rand.NewSource(40))
+	consts := []int64{10, 20}
+	told := 0
+	for range 20000 {
+		z := api.Zone{}
+		for i := range 1 + rnd.Intn(4) {
+			z.Classes = append(z.Classes, class(rnd.Intn(8), max(rnd.Intn(6)-3, -1)))
+			if i > 0 {
+				z.Gaps = append(z.Gaps, rnd.Intn(4))
+			}
+		}
+		a := rnd.Intn(3)
+		vals := []int64{99, 15, 18}
+		n, e := pick.Number(z, a, vals, consts, 2)
+		vals[a] = -1000
+		if x, xe := pick.Number(z, a, vals, consts, 2); x != n || xe != e {
+			t.Fatal(z, a, n, e, x, xe)
+		}
+		if e == api.OK {
+			told++
+		}
+	}
+	if told < 5000 {
+		t.Error("too few were told", told)
+	}
+}
+
 func TestNumberRange(t *testing.T) {
 	up := func(g int) api.Zone { return zoneOf([]api.Class{class(2, -1), class(1, -1)}, g) }
 	down := func(g int) api.Zone { return zoneOf([]api.Class{class(1, -1), class(2, -1)}, g) }
